@@ -1,0 +1,1 @@
+"""Huebill: what each one pays for colours."""

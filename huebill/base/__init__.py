@@ -1,0 +1,1 @@
+"""What rests on no web: names, integers, fractions and linear programs."""

@@ -1,0 +1,1 @@
+"""Charges and bills of webs."""

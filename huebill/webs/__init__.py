@@ -1,0 +1,1 @@
+"""Webs, their groups and their colours."""

@@ -1,0 +1,164 @@
+"""The conventions that hold everywhere [0.1] to [0.6], and the interface: names, modules and classes."""
+
+import importlib
+import unittest
+
+from huebill import errors
+from huebill.bills.charges import Charge, knot_charge
+from huebill.bills.exists import is_kept_paper, is_scale, kept_bill, kept_paper, parts_paper, scale_total
+from huebill.bills.kept import is_kept, objections, worst
+from huebill.webs.colours import colouring, full_knots, full_loose, greatest_knots, groups, loose_groups
+from huebill.webs.webs import Web, round_web, row_web
+from tests.helper import BOND, EIGHT, FIVE, ROW, Case, big_webs
+
+INTERFACE = {
+    "huebill.errors": (
+        "BillError", "InvalidName", "InvalidWeb", "InvalidGroup", "InvalidCharge", "InvalidOrder", "InvalidPlan",
+        "InvalidOperation", "ParseError", "InvalidNumber", "UnknownName", "TooMany", "NothingToUndo", "Broken",
+        "Spoiled",
+    ),
+    "huebill.base.numbers": ("is_integer", "is_name", "is_fraction", "lowest"),
+    "huebill.webs.webs": ("Web", "round_web", "row_web"),
+    "huebill.webs.colours": (
+        "groups", "is_group", "is_loose", "is_knot", "loose_groups", "full_loose", "full_knots", "greatest_knots",
+        "colours", "is_colouring", "colouring", "is_enough",
+    ),
+    "huebill.bills.charges": ("Charge", "knot_charge"),
+    "huebill.bills.kept": (
+        "excess", "is_within", "is_bill", "is_kept", "objection", "objections", "worst", "gain",
+    ),
+    "huebill.bills.exists": (
+        "is_scale", "scale_total", "parts_number", "parts_paper", "is_parts_paper", "has_kept", "kept_bill",
+        "kept_paper", "is_kept_paper",
+    ),
+}
+WEB = (
+    "things", "conflicts", "beside", "are_tied", "with_conflict", "without_conflict", "with_thing", "without", "part",
+    "turned", "renamed", "__invert__", "__contains__", "__len__", "__iter__", "__eq__", "__str__",
+)
+CHARGE = (
+    "things", "unit", "pays", "total", "of", "cut", "times", "mixed", "put_beside", "__getitem__", "__add__", "__sub__",
+    "__contains__", "__len__", "__iter__", "__eq__", "__str__",
+)
+
+
+class Interface(Case):
+    def test_names_stand_in_their_modules(self):
+        for module, names in INTERFACE.items():
+            found = importlib.import_module(module)
+            for name in names:
+                self.assertEqual(getattr(found, name).__module__, module, name)
+
+    def test_methods_stand_in_their_classes(self):
+        for name in WEB:
+            self.assertIn(name, vars(Web))
+        for name in CHARGE:
+            self.assertIn(name, vars(Charge))
+
+    def test_properties_cannot_be_set(self):
+        charge = Charge({"a": 1})
+        for thing, names in ((BOND, ("things", "conflicts")), (charge, ("things", "unit", "pays", "total"))):
+            for name in names:
+                with self.assertRaises(AttributeError):
+                    setattr(thing, name, None)
+
+
+class Apart(Case):
+    """No call changes its arguments, and no state is shared [0.2]."""
+
+    def test_a_charge_is_apart_from_its_dict(self):
+        pays = {"c": 4, "a": 2}
+        charge = Charge(pays, unit=2)
+        self.assertEqual(list(pays.items()), [("c", 4), ("a", 2)])
+        pays["a"] = 100
+        pays.clear()
+        self.assertEqual(str(charge), "a 1, c 2")
+
+    def test_a_charge_is_apart_from_what_it_hands_out(self):
+        charge = Charge({"a": 1, "b": 2})
+        charge.pays["a"] = 100
+        charge.pays.clear()
+        self.assertEqual((charge.pays, str(charge)), ({"a": 1, "b": 2}, "a 1, b 2"))
+        for made in (charge + charge, charge.times(2), charge.cut(("a",)), charge.mixed(charge, 1, 2)):
+            made.pays.clear()
+            self.assertGreater(len(made.pays), 0)
+        self.assertEqual(charge, Charge({"a": 1, "b": 2}))
+
+    def test_names_are_left_as_they_were(self):
+        names = {"c": "a", "a": "c"}
+        BOND.renamed(names)
+        self.assertEqual(list(names.items()), [("c", "a"), ("a", "c")])
+
+    def test_papers_are_apart(self):
+        for web in (BOND, FIVE, EIGHT):
+            before = parts_paper(web)
+            parts_paper(web)[2][1].clear()
+            self.assertEqual(parts_paper(web), before)
+        kept_paper(FIVE)[1][1].clear()
+        self.is_true(is_kept_paper(FIVE, kept_paper(FIVE)))
+
+    def test_judged_values_are_left_as_they_were(self):
+        weights = {("b", "d"): 3, ("a", "c"): 2}
+        self.is_true(is_scale(ROW, (2, weights)))
+        self.assertEqual(scale_total(ROW, (2, weights)), (5, 2))
+        self.is_false(is_kept_paper(ROW, ("scale", (2, weights))))
+        self.assertEqual(list(weights.items()), [(("b", "d"), 3), (("a", "c"), 2)])
+
+    def test_the_order_of_a_dict_has_no_effect(self):
+        self.assertEqual(Charge({"a": 1, "b": 2}), Charge({"b": 2, "a": 1}))
+        self.assertEqual(str(Charge({"b": 2, "a": 1})), "a 1, b 2")
+        for weights in ({("b", "d"): 3, ("a", "c"): 2}, {("a", "c"): 2, ("b", "d"): 3}):
+            self.is_true(is_scale(ROW, (2, weights)))
+
+    def test_a_refused_call_changes_nothing(self):
+        charge = Charge({"a": 1, "b": 1})
+        for call in (lambda: charge + ROW, lambda: charge["x"], lambda: charge.times(1, 0), lambda: charge.cut(()),
+                     lambda: charge.put_beside(charge), lambda: charge.mixed(charge, 2, 1), lambda: charge.of(["a"])):
+            with self.assertRaises((errors.BillError, errors.InvalidNumber, errors.UnknownName)):
+                call()
+        self.assertEqual((str(charge), charge.things, charge.unit), ("a 1, b 1", ("a", "b"), 1))
+
+
+class Values(Case):
+    def test_sequences_are_tuples(self):
+        charge = knot_charge(FIVE, ("a", "c", "d"))
+        for found in (groups(FIVE), loose_groups(FIVE), full_loose(FIVE), full_knots(FIVE), greatest_knots(FIVE),
+                      colouring(FIVE, FIVE.things), objections(FIVE, charge)):
+            self.assertIs(type(found), tuple)
+            self.assertGreater(len(found), 0)
+            self.assertTrue(all(type(group) is tuple for group in found))
+            self.assertEqual(list(found), sorted(set(found)))
+        for found in (FIVE.things, FIVE.conflicts, FIVE.beside("a"), charge.things, charge["a"], charge.total,
+                      charge.of(()), worst(FIVE, charge), worst(FIVE, charge)[0], worst(FIVE, charge)[1]):
+            self.assertIs(type(found), tuple)
+
+    def test_equal_calls_return_equal_results(self):
+        for web in list(big_webs())[:24]:
+            same = Web(web.things[::-1], tuple((other, one) for one, other in web.conflicts[::-1]))
+            self.assertEqual(parts_paper(web), parts_paper(same))
+            self.assertEqual(kept_paper(web), kept_paper(same))
+            self.assertEqual(colouring(web, web.things), colouring(same, same.things))
+            self.assertEqual(list(parts_paper(web)[2][1]), list(parts_paper(same)[2][1]))
+
+    def test_no_other_iteration(self):
+        for value in (errors.InvalidNumber((1, 2)), errors.UnknownName("ab"), errors.Spoiled(("a",)),
+                      errors.ParseError(1), errors.BillError("x")):
+            with self.assertRaises(TypeError):
+                iter(value)
+
+    def test_true_is_not_1(self):
+        self.is_false(is_scale(Web(("a",), ()), (True, {("a",): 1})))
+        self.is_false(is_scale(Web(("a",), ()), (1, {("a",): True})))
+        self.is_true(is_scale(Web(("a",), ()), (1, {("a",): 1})))
+        self.refuses(errors.InvalidNumber, lambda: round_web(("a", "b"), True), True)
+        self.refuses(errors.InvalidNumber, lambda: Charge({"a": 1}, unit=True), True)
+        self.refuses(errors.InvalidCharge, lambda: Charge({"a": True}))
+
+    def test_webs_of_long_names(self):
+        web = row_web(("zzzzzzzz", "a", "aaaaaaaa"))
+        self.assertEqual(str(web), "web of a aaaaaaaa zzzzzzzz: a-aaaaaaaa a-zzzzzzzz")
+        self.is_true(is_kept(web, kept_bill(web)))
+
+
+if __name__ == "__main__":
+    unittest.main()
