@@ -226,3 +226,123 @@ def plain_scale(web, value):
     if not all(group in loose and type(weight) is int and weight >= 1 for group, weight in weights.items()):
         return False
     return all(sum(weight for group, weight in weights.items() if thing in group) >= unit for thing in web.things)
+
+
+def plain_by_loose(web, charge):
+    """Whether a charge is within, by a look at the loose groups alone."""
+    shares = shares_of(charge)
+    return all(sum(shares[thing] for thing in group) <= 1 for group in all_loose(web))
+
+
+def plain_kept(web, charge):
+    return plain_by_loose(web, charge) and plain_bill(web, charge)
+
+
+def plain_parts_of(web, group):
+    """The web of the things of a group."""
+    return Web(group, tuple(pair for pair in web.conflicts if pair[0] in group and pair[1] in group))
+
+
+def plain_full_knots(web):
+    knots = all_knots(web)
+    return [knot for knot in knots if not any(set(knot) < set(other) for other in knots)]
+
+
+def plain_greatest(web):
+    """The greatest knots, ascending, by a look at all groups."""
+    return list(_greatest_of(web.things, web.conflicts))
+
+
+@lru_cache(maxsize=None)
+def _greatest_of(things, conflicts):
+    knots = [group for group in subsets(things) if all(pair in conflicts for pair in combinations(group, 2))]
+    most = max(len(knot) for knot in knots)
+    return tuple(sorted(knot for knot in knots if len(knot) == most))
+
+
+def most_in_knots(web, group):
+    """The most things of a group that are a knot."""
+    return len(_greatest_of(group, web.conflicts)[0])
+
+
+def plain_spoiled(web):
+    """The first group without a knot of as many things as it has colours, by a look at all groups; or None."""
+    for group in subsets(web.things):
+        if most_in_knots(web, group) < plain_colours(web, group):
+            return group
+    return None
+
+
+def ringed_webs():
+    """Rings of three to eight things and their turned webs, and those of up to seven with one thing more."""
+    for ring in RINGS:
+        for web in (ring, ~ring):
+            yield web
+            if len(web) < 8:
+                for beside in ((), ("a",), ("a", "b"), ("a", "c"), web.things[1:], web.things):
+                    yield web.with_thing("z", beside=beside)
+                    yield web.renamed({"a": "y"}).with_thing("a", beside=tuple(
+                        thing for thing in beside if thing != "a"))
+
+
+def more_webs():
+    """Webs of all sizes, the same at each run: small ones, drawn ones and the great ones."""
+    yield from small_webs(4)
+    yield from some_webs(5, 50, 31)
+    yield from some_webs(6, 25, 32)
+    yield from big_webs()
+
+
+def good_webs():
+    return [web for web in more_webs() if plain_spoiled(web) is None]
+
+
+def bad_webs():
+    """Webs that are not good, each with its first spoiled group."""
+    return [(web, plain_spoiled(web)) for web in list(ringed_webs()) + [EIGHT] if plain_spoiled(web) is not None]
+
+
+def mixed_shares(web, shares):
+    """What each thing pays by a dict from knots to whole shares, in fractions of Python's own."""
+    unit = sum(shares.values())
+    return {thing: Fraction(sum(part for knot, part in shares.items() if thing in knot), unit) for thing in web}
+
+
+def mix(web, shares):
+    """The charge of a dict from knots to whole shares."""
+    return charge_of(mixed_shares(web, shares))
+
+
+def some_mixings(web, times, seed):
+    """Some pairs of a unit and a dict of shares of greatest knots, the same at each run."""
+    luck = random.Random(seed)
+    knots = plain_greatest(web)
+    for _ in range(times):
+        chosen = luck.sample(knots, luck.randint(1, len(knots)))
+        shares = {knot: luck.randint(1, 9) for knot in chosen}
+        yield sum(shares.values()), shares
+
+
+def near_dicts(told, keys, items):
+    """Values near a dict: of another kind, without a key, with other keys, with other values."""
+    yield from (list(told), tuple(told.items()), list(told.items()), {})
+    for key in told:
+        yield {other: told[other] for other in told if other != key}
+        for item in items:
+            yield {**told, key: item}
+    for key in keys:
+        for item in items:
+            yield {**told, key: item}
+
+
+def longest(value):
+    """The most digits of an integer in a value."""
+    if isinstance(value, int):
+        return len(str(abs(value)))
+    if isinstance(value, Charge):
+        return longest((value.unit, value.pays))
+    if isinstance(value, dict):
+        return max([longest(part) for part in value.values()] + [0])
+    if isinstance(value, tuple):
+        return max([longest(part) for part in value] + [0])
+    return 0

@@ -5,9 +5,20 @@ import unittest
 
 from huebill import errors
 from huebill.bills.charges import Charge, knot_charge
+from huebill.bills.even import (
+    equal_bill, floor_paper, greatest_floor, height_paper, is_floor_paper, least_height,
+)
 from huebill.bills.exists import is_kept_paper, is_scale, kept_bill, kept_paper, parts_paper, scale_total
 from huebill.bills.kept import is_kept, objections, worst
+from huebill.bills.mixtures import (
+    alike_at, always_pay, bill_with, fixing_group, freedom, is_mixing, is_mixing_of, mixing, mixing_charge, never_pay,
+    pay_range,
+)
+from huebill.orders.orders import (
+    count_kind, count_paying, kind_bills, kind_order, mean_bill, order_bill, order_paying, payers,
+)
 from huebill.webs.colours import colouring, full_knots, full_loose, greatest_knots, groups, loose_groups
+from huebill.webs.good import good_paper, is_good, is_good_paper, knot_in, spoiled_group
 from huebill.webs.webs import Web, round_web, row_web
 from tests.helper import BOND, EIGHT, FIVE, ROW, Case, big_webs
 
@@ -30,6 +41,19 @@ INTERFACE = {
     "huebill.bills.exists": (
         "is_scale", "scale_total", "parts_number", "parts_paper", "is_parts_paper", "has_kept", "kept_bill",
         "kept_paper", "is_kept_paper",
+    ),
+    "huebill.webs.good": ("is_good", "spoiled_group", "good_paper", "is_good_paper", "knot_in"),
+    "huebill.bills.mixtures": (
+        "is_mixing", "mixing_charge", "mixing", "is_mixing_of", "pay_range", "bill_with", "never_pay", "always_pay",
+        "is_fixing", "fixing_group", "freedom", "alike_at",
+    ),
+    "huebill.bills.even": (
+        "least_height", "greatest_floor", "height_paper", "is_height_paper", "floor_paper", "is_floor_paper",
+        "equal_bill", "is_equal_kept",
+    ),
+    "huebill.orders.orders": (
+        "is_order", "order_bill", "payers", "is_kind", "kind_order", "kind_orders", "count_paying", "count_kind",
+        "order_paying", "mean_bill", "kind_bills",
     ),
 }
 WEB = (
@@ -97,6 +121,40 @@ class Apart(Case):
         kept_paper(FIVE)[1][1].clear()
         self.is_true(is_kept_paper(FIVE, kept_paper(FIVE)))
 
+    def test_papers_of_good_webs_are_apart(self):
+        for call, at in ((good_paper, 1), (height_paper, 2), (floor_paper, 2)):
+            before = call(ROW)
+            told = call(ROW)[at] if at == 1 else call(ROW)[at][1]
+            told.clear()
+            self.assertEqual(call(ROW), before)
+        bill = kept_bill(ROW)
+        before = mixing(ROW, bill)
+        mixing(ROW, bill)[1].clear()
+        self.assertEqual(mixing(ROW, bill), before)
+
+    def test_shares_are_left_as_they_were(self):
+        shares = {("c", "d"): 1, ("a", "b"): 2}
+        charge = mixing_charge(ROW, (3, shares))
+        self.is_true(is_mixing(ROW, (3, shares)))
+        self.is_true(is_mixing_of(ROW, charge, (3, shares)))
+        self.is_false(is_mixing(ROW, (2, shares)))
+        self.refuses(errors.InvalidOperation, lambda: mixing_charge(ROW, (2, shares)))
+        self.assertEqual(list(shares.items()), [(("c", "d"), 1), (("a", "b"), 2)])
+        shares.clear()
+        self.assertEqual(str(charge), "a 2/3, b 2/3, c 1/3, d 1/3")
+        weights = {"d": 1, "a": 1}
+        self.is_true(is_floor_paper(ROW, ("floor", equal_bill(ROW), (2, weights))))
+        self.assertEqual(list(weights.items()), [("d", 1), ("a", 1)])
+        knots = dict(list(good_paper(BOND)[1].items())[::-1])
+        self.is_true(is_good_paper(BOND, ("good", knots)))
+        self.assertEqual(list(knots), list(good_paper(BOND)[1])[::-1])
+
+    def test_the_order_of_shares_has_no_effect(self):
+        one = (3, {("a", "b"): 2, ("c", "d"): 1})
+        other = (3, {("c", "d"): 1, ("a", "b"): 2})
+        self.assertEqual(mixing_charge(ROW, one), mixing_charge(ROW, other))
+        self.assertEqual(list(mixing(ROW, mixing_charge(ROW, other))[1]), [("a", "b"), ("c", "d")])
+
     def test_judged_values_are_left_as_they_were(self):
         weights = {("b", "d"): 3, ("a", "c"): 2}
         self.is_true(is_scale(ROW, (2, weights)))
@@ -139,6 +197,31 @@ class Values(Case):
             self.assertEqual(kept_paper(web), kept_paper(same))
             self.assertEqual(colouring(web, web.things), colouring(same, same.things))
             self.assertEqual(list(parts_paper(web)[2][1]), list(parts_paper(same)[2][1]))
+
+    def test_equal_calls_about_equal_webs(self):
+        for web in [web for web in list(big_webs())[::2] if is_good(web)]:
+            same = Web(web.things[::-1], tuple((other, one) for one, other in web.conflicts[::-1]))
+            bill = kept_bill(web)
+            for call in (good_paper, height_paper, floor_paper, fixing_group, kind_order, mean_bill):
+                self.assertEqual(call(web), call(same))
+            self.assertEqual(mixing(web, bill), mixing(same, bill))
+            self.assertEqual(alike_at(web, ()), alike_at(same, ()))
+            self.assertEqual(bill_with(web, web.things[:1], *kept_bill(web)[web.things[0]]),
+                             bill_with(same, web.things[:1], *kept_bill(web)[web.things[0]]))
+
+    def test_kinds_of_results(self):
+        for found in (pay_range(BOND, ("a",)), never_pay(BOND), always_pay(BOND), fixing_group(ROW), kind_bills(ROW),
+                      payers(ROW, ROW.things), kind_order(ROW), order_paying(ROW, ("a", "b")), knot_in(ROW, ROW.things),
+                      spoiled_group(FIVE), least_height(ROW), greatest_floor(ROW)):
+            self.assertIs(type(found), tuple)
+        for found in (freedom(ROW), count_kind(ROW), count_paying(ROW, ()), *pay_range(BOND, ("a",)),
+                      *least_height(ROW)):
+            self.assertIs(type(found), int)
+        for found in (mean_bill(ROW), equal_bill(ROW), order_bill(ROW, ROW.things), *alike_at(ROW, ())):
+            self.assertIs(type(found), Charge)
+        for shares in (mixing(ROW, kept_bill(ROW)), height_paper(ROW)[2], floor_paper(ROW)[2]):
+            self.assertEqual((type(shares), type(shares[0]), type(shares[1])), (tuple, int, dict))
+            self.assertEqual(sum(shares[1].values()), shares[0])
 
     def test_no_other_iteration(self):
         for value in (errors.InvalidNumber((1, 2)), errors.UnknownName("ab"), errors.Spoiled(("a",)),

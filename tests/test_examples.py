@@ -4,8 +4,9 @@ import unittest
 
 from huebill import errors
 from huebill.base import numbers
-from huebill.bills import charges, exists, kept
-from huebill.webs import colours, webs
+from huebill.bills import charges, even, exists, kept, mixtures
+from huebill.orders import orders
+from huebill.webs import colours, good, webs
 
 VALUES = """
 >>> BOND = Web(("a", "b", "c"), (("b", "c"),))
@@ -61,11 +62,46 @@ STAGE_6 = """
 [True, True, False, (7, 2), 'scale']
 """
 
+STAGE_7 = """
+>>> [is_good(ROW), is_good(BRIDGE), is_good(FIVE), spoiled_group(FIVE), spoiled_group(EIGHT.without("a", "c", "e")) , is_good(~ROW), knot_in(BRIDGE, ("b", "c", "d")), knot_in(FIVE, ("a", "c"))]
+[True, True, False, ('a', 'b', 'c', 'd', 'e'), None, True, ('b', 'c'), ('a',)]
+>>> [is_good_paper(FIVE, ("ring", ("c", "b", "a", "e", "d"))), is_good_paper(BOND, ("good", {("a",): ("a",), ("b",): ("b",), ("c",): ("c",), ("a", "b"): ("b",), ("a", "c"): ("a",), ("b", "c"): ("b", "c"), ("a", "b", "c"): ("b", "c")})), good_paper(FIVE)[0], is_good(EIGHT), len(spoiled_group(EIGHT))]
+[True, True, 'ring', False, 5]
+"""
+
+STAGE_8 = """
+>>> flat = Charge({thing: 1 for thing in ROW}, unit=2)
+>>> [is_mixing(ROW, (4, {("a", "b"): 2, ("c", "d"): 2})), is_mixing(BOND, (1, {("a",): 1})), mixing_charge(ROW, (4, {("a", "b"): 2, ("c", "d"): 2})) == flat, is_mixing_of(ROW, flat, (2, {("a", "b"): 1, ("c", "d"): 1})), mixing_charge(ROW, mixing(ROW, flat)) == flat, pay_range(ROW, ("a", "d"))]
+[True, False, True, True, True, (0, 1)]
+>>> [pay_range(BRIDGE, ("a", "d")), pay_range(BRIDGE, ("a", "b")), never_pay(BOND), always_pay(BOND), str(bill_with(BRIDGE, ("a", "b"), 1, 2))]
+[(1, 1), (0, 2), ('a',), ('b', 'c'), 'a 1/4, b 1/4, c 1/4, d 3/4, e 3/4, f 3/4']
+>>> [fixing_group(ROW), is_fixing(ROW, ("a", "c")), is_fixing(ROW, ("a", "d")), freedom(BRIDGE), fixing_group(BOND), alike_at(BRIDGE, ("f",)), [one.of(("a", "c")) for one in alike_at(ROW, ("a", "c"))]]
+[('a', 'b'), False, True, 1, (), None, [(1, 1), (1, 1)]]
+>>> freedom(FIVE)
+raises Spoiled(('a', 'b', 'c', 'd', 'e'))
+"""
+
+STAGE_9 = """
+>>> STAR = Web(tuple("abcd"), (("a", "b"), ("a", "c"), ("a", "d")))
+>>> [least_height(BRIDGE), greatest_floor(BRIDGE), least_height(BOND), greatest_floor(BOND), least_height(STAR), greatest_floor(STAR), str(equal_bill(FIVE)), [is_equal_kept(web) for web in (BOND, ROW, FIVE, EIGHT, BRIDGE, STAR)]]
+[(1, 2), (1, 2), (1, 1), (0, 1), (1, 1), (1, 3), 'a 3/5, b 3/5, c 3/5, d 3/5, e 3/5', [False, True, False, True, True, False]]
+>>> third = Charge({"a": 3, "b": 1, "c": 1, "d": 1}, unit=3)
+>>> [is_floor_paper(STAR, ("floor", third, (3, {"b": 1, "c": 1, "d": 1}))), is_floor_paper(STAR, ("floor", third, (1, {"b": 1}))), is_height_paper(STAR, ("height", third, (5, {"a": 5}))), height_paper(ROW)[1] == equal_bill(ROW), floor_paper(BOND)[1].of(("a",))]
+[True, False, True, True, (0, 1)]
+"""
+
+STAGE_10 = """
+>>> [payers(BOND, ("a", "b", "c")), is_kind(BOND, ("a", "b", "c")), str(order_bill(BOND, ("b", "a", "c"))), list(kind_orders(BOND)), str(mean_bill(BOND)), is_kept(BOND, mean_bill(BOND))]
+[('a', 'c'), False, 'a 0, b 1, c 1', [('b', 'a', 'c'), ('b', 'c', 'a'), ('c', 'a', 'b'), ('c', 'b', 'a')], 'a 1/3, b 5/6, c 5/6', False]
+>>> [count_paying(BOND, ("b", "c")), count_paying(BOND, ("a", "b")), count_paying(BOND, ("a",)), count_kind(FIVE), kind_order(EIGHT), order_paying(BOND, ("a", "b")), kind_bills(BRIDGE), mean_bill(EIGHT) == equal_bill(EIGHT), is_order(ROW, ("a", "b", "c"))]
+[4, 1, 0, 0, None, ('a', 'c', 'b'), (('a', 'b', 'c'), ('d', 'e', 'f')), True, False]
+"""
+
 
 def all_names():
     """What an example can call: all that the modules have."""
     names = {}
-    for module in (errors, numbers, webs, colours, charges, kept, exists):
+    for module in (errors, numbers, webs, colours, charges, kept, exists, good, mixtures, even, orders):
         names.update({name: value for name, value in vars(module).items() if not name.startswith("_")})
     return names
 
@@ -83,18 +119,25 @@ class Examples(unittest.TestCase):
                 exec(code, names)
             elif behind.startswith("raises "):
                 compared += 1
-                with self.assertRaises(names[behind[7:]], msg=code):
-                    eval(code, names)
+                self.raises(behind[7:], code, names)
             else:
                 compared += 1
                 self.assertEqual(repr(eval(code, names)), behind, code)
         return compared
 
+    def raises(self, told, code, names):
+        """Told is the name of an error; what it keeps can stand in brackets behind it."""
+        error, _, kept_one = told.partition("(")
+        with self.assertRaises(names[error], msg=code) as caught:
+            eval(code, names)
+        if kept_one:
+            self.assertEqual([repr(value) for value in vars(caught.exception).values()], [kept_one[:-1]], code)
+
     def test_as_written(self):
         names = all_names()
         self.assertEqual(self.told(VALUES, names), 0)
-        counts = [self.told(text, names) for text in (STAGE_1, STAGE_2, STAGE_3, STAGE_4, STAGE_5, STAGE_6)]
-        self.assertEqual(counts, [1, 3, 2, 2, 2, 2])
+        texts = (STAGE_1, STAGE_2, STAGE_3, STAGE_4, STAGE_5, STAGE_6, STAGE_7, STAGE_8, STAGE_9, STAGE_10)
+        self.assertEqual([self.told(text, names) for text in texts], [1, 3, 2, 2, 2, 2, 2, 4, 2, 2])
 
     def test_the_values_of_the_examples(self):
         names = all_names()

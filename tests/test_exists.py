@@ -10,8 +10,8 @@ from huebill.bills.exists import (
 from huebill.errors import InvalidOperation, InvalidWeb
 from huebill.webs.webs import Web
 from tests.helper import (
-    BOND, DOT, EIGHT, EMPTY_EIGHT, FIVE, LONG, OTHER_KINDS, RINGS, ROW, Case, all_loose, big_webs, near_tuples, pair_of,
-    plain_bill, plain_colours, plain_scale, shares_of, small_webs, some_webs, subsets,
+    BOND, DOT, EIGHT, EMPTY_EIGHT, FIVE, LONG, OTHER_KINDS, RINGS, ROW, Case, big_webs, longest, near_tuples, pair_of,
+    plain_bill, plain_by_loose, plain_colours, plain_scale, shares_of, small_webs, some_webs, subsets,
 )
 
 TWO = (2, {("a", "c"): 1, ("a", "d"): 1, ("b", "d"): 1, ("b", "e"): 1, ("c", "e"): 1})
@@ -22,27 +22,8 @@ def webs():
     return list(small_webs(4)) + list(some_webs(5, 60, 21)) + list(big_webs())
 
 
-def by_loose_groups(web, charge):
-    """Whether a charge is within, by a look at the loose groups alone."""
-    shares = shares_of(charge)
-    return all(sum(shares[thing] for thing in group) <= 1 for group in all_loose(web))
-
-
 def plain_total(scale):
     return Fraction(sum(scale[1].values()), scale[0])
-
-
-def longest(value):
-    """The most digits of an integer in a paper."""
-    if isinstance(value, int):
-        return len(str(abs(value)))
-    if isinstance(value, Charge):
-        return longest((value.unit, value.pays))
-    if isinstance(value, dict):
-        return longest(tuple(value.values()))
-    if isinstance(value, tuple):
-        return max(longest(part) for part in value)
-    return 0
 
 
 def near_scales(scale):
@@ -100,7 +81,7 @@ class Papers(Case):
             paper = parts_paper(web)
             word, charge, scale = paper
             self.assertEqual((type(paper), word), (tuple, "parts"))
-            self.assertTrue(by_loose_groups(web, charge))
+            self.assertTrue(plain_by_loose(web, charge))
             self.assertTrue(plain_scale(web, scale))
             self.assertEqual(list(scale[1]), sorted(scale[1]))
             self.assertEqual(charge.things, web.things)
@@ -133,7 +114,7 @@ class Papers(Case):
         self.assertEqual(forms, {"kept", "scale"})
 
     def check_kept(self, web, charge):
-        self.assertTrue(by_loose_groups(web, charge))
+        self.assertTrue(plain_by_loose(web, charge))
         self.assertTrue(plain_bill(web, charge))
         self.assertTrue(all(0 <= share <= 1 for share in shares_of(charge).values()))
 
@@ -206,7 +187,7 @@ class Papers(Case):
             many = plain_colours(web, web.things)
             for group in subsets(web.things):
                 charge = knot_charge(web, group)
-                right = by_loose_groups(web, charge) and len(group) == many
+                right = plain_by_loose(web, charge) and len(group) == many
                 self.assertIs(is_kept_paper(web, ("kept", charge)), right)
 
 

@@ -26,6 +26,18 @@ def greatest(rows, limits, gains):
     return unit, values, table[-1][len(gains):-1]
 
 
+def balanced(table):
+    """Shares of the rows, and of the columns, of a table of integers from 0 on: two lists of integers from 0 on.
+
+    No other shares of the rows make the least sum over a column greater, no other ones of the columns make the
+    greatest sum over a row less, and these two sums are the same. Both lists have the same sum, which stands for 1.
+    """
+    # With 1 added to each cell no sum is 0, so the limit 1 for all rows only sets the scale.
+    raised = [[cell + 1 for cell in row] for row in table]
+    _, columns, rows = greatest(raised, [1] * len(table), [1] * len(table[0]))
+    return rows, columns
+
+
 def _first_table(rows, limits, gains):
     """The rows with what is left below each limit, the limits last, and the gains, turned round, below all."""
     table = []

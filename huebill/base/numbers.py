@@ -26,6 +26,11 @@ def is_integer(value):
     return is_whole(value) and abs(value) < _TOO_LONG
 
 
+def is_positive(value):
+    """Whether the value is an integer of at least 1, of any size."""
+    return is_whole(value) and value >= 1
+
+
 def is_name(value):
     """Whether the value is a string of one to MAX_NAME letters a to z."""
     if not isinstance(value, str) or not 1 <= len(value) <= MAX_NAME:

@@ -50,7 +50,7 @@ class Charge:
         self._check_group(group)
         if group == ():
             raise InvalidOperation("a charge has at least one thing")
-        return _made({thing: self._pays[thing] for thing in group}, self._unit)
+        return charge_over({thing: self._pays[thing] for thing in group}, self._unit)
 
     def times(self, numerator, denominator=1):
         """The charge by which each thing pays so many times as much."""
@@ -59,7 +59,7 @@ class Charge:
         if not is_integer(denominator) or denominator < 1:
             raise InvalidNumber(denominator)
         pays = {thing: self._pays[thing] * numerator for thing in self._things}
-        return _made(pays, self._unit * denominator)
+        return charge_over(pays, self._unit * denominator)
 
     def mixed(self, other, numerator, denominator):
         """Of this charge the fraction that is told, of the other one the rest to 1."""
@@ -83,7 +83,7 @@ class Charge:
             raise TooMany(MAX_THINGS)
         one_pays = {thing: self._pays[thing] * other.unit for thing in self._things}
         other_pays = {thing: paid * self._unit for thing, paid in other.pays.items()}
-        return _made({**one_pays, **other_pays}, self._unit * other.unit)
+        return charge_over({**one_pays, **other_pays}, self._unit * other.unit)
 
     def __add__(self, other):
         if not self._is_alike(other):
@@ -133,6 +133,15 @@ def knot_charge(web, group):
     return Charge({thing: 1 if thing in group else 0 for thing in web.things})
 
 
+def charge_over(pays, unit):
+    """The charge by which each thing pays its integer divided by the unit; the integers can be of any size."""
+    charge = Charge({thing: 0 for thing in pays})
+    shared = _shared_divisor(pays, unit)
+    charge._unit = unit // shared
+    charge._pays = {thing: pays[thing] // shared for thing in sorted(pays)}
+    return charge
+
+
 def is_charge_of(web, value):
     """Whether the value is a charge of the web."""
     return isinstance(value, Charge) and value.things == web.things
@@ -157,15 +166,6 @@ def _shared_divisor(pays, unit):
     return shared
 
 
-def _made(pays, unit):
-    """A charge whose integers can be longer than those that may be passed."""
-    charge = Charge({thing: 0 for thing in pays})
-    shared = _shared_divisor(pays, unit)
-    charge._unit = unit // shared
-    charge._pays = {thing: pays[thing] // shared for thing in sorted(pays)}
-    return charge
-
-
 def _sum_of(one, one_times, other, other_times, denominator):
     """So many times the one charge and so many times the other one, divided by the denominator."""
     one_pays = one.pays
@@ -173,4 +173,4 @@ def _sum_of(one, one_times, other, other_times, denominator):
     one_factor = one_times * other.unit
     other_factor = other_times * one.unit
     pays = {thing: one_pays[thing] * one_factor + other_pays[thing] * other_factor for thing in one_pays}
-    return _made(pays, one.unit * other.unit * denominator)
+    return charge_over(pays, one.unit * other.unit * denominator)

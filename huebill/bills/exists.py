@@ -3,7 +3,7 @@
 from math import gcd
 
 from huebill.base.linear import greatest
-from huebill.base.numbers import is_whole, reduced
+from huebill.base.numbers import is_positive, reduced
 from huebill.bills.charges import Charge
 from huebill.bills.kept import is_bill, is_kept, is_within
 from huebill.errors import InvalidOperation
@@ -17,10 +17,10 @@ def is_scale(web, value):
     if not isinstance(value, tuple) or len(value) != 2:
         return False
     unit, weights = value
-    if not _is_positive(unit) or not isinstance(weights, dict):
+    if not is_positive(unit) or not isinstance(weights, dict):
         return False
     for group in weights:
-        if not is_loose(web, group) or len(group) == 0 or not _is_positive(weights[group]):
+        if not is_loose(web, group) or len(group) == 0 or not is_positive(weights[group]):
             return False
     return all([_weight_on(weights, thing) >= unit for thing in web.things])
 
@@ -88,10 +88,6 @@ def is_kept_paper(web, value):
     if word == "kept":
         return is_kept(web, shown)
     return word == "scale" and is_scale(web, shown) and _is_low(web, shown)
-
-
-def _is_positive(value):
-    return is_whole(value) and value >= 1
 
 
 def _weight_on(weights, thing):

@@ -94,17 +94,35 @@ def is_enough(web):
     return len(greatest_knots(web)[0]) == colours(web)
 
 
+def is_for_groups(web, value):
+    """Whether the value is a dict with all groups but the empty one as keys, and nothing else."""
+    check_web(web)
+    if not isinstance(value, dict) or not all([is_group_of(web.things, key) for key in value]):
+        return False
+    return sorted(value) == list(groups(web)[1:])
+
+
 def colours_of_groups(web):
     """The dict from all groups to their colours."""
+    counts = colours_by_mask(web)
+    return {group: counts[mask_of(web, group)] for group in groups(web)}
+
+
+def colours_by_mask(web):
+    """The colours of all groups, each at its mask."""
     check_web(web)
-    bits = {thing: 1 << at for at, thing in enumerate(web.things)}
-    loose = [_mask(bits, group) for group in loose_groups(web)]
+    loose = [mask_of(web, group) for group in loose_groups(web)]
     counts = [0]
-    for mask in range(1, 1 << len(bits)):
+    for mask in range(1, 1 << len(web)):
         # Some loose group of a colouring holds the first thing; all others are a colouring of what is left.
         first = mask & -mask
         counts.append(1 + min([counts[mask - part] for part in loose if part & first and part & mask == part]))
-    return {group: counts[_mask(bits, group)] for group in groups(web)}
+    return counts
+
+
+def mask_of(web, group):
+    """The group as one number, which has a bit for each of its things: the first thing of the web has the first bit."""
+    return sum([1 << at for at, thing in enumerate(web.things) if thing in group])
 
 
 def _meets(group, beside):
@@ -129,8 +147,3 @@ def _parted(web, rest, many, parts):
     if len(parts) == many:
         return None
     return _parted(web, rest[1:], many, parts + ((thing,),))
-
-
-def _mask(bits, group):
-    """The group as one number, which has the bits of its things."""
-    return sum([bits[thing] for thing in group])

@@ -138,6 +138,14 @@ def is_group_of(things, value):
     return all([one < other for one, other in zip(value, value[1:])])
 
 
+def has_shape(web, things, places):
+    """Whether these are different things of the web, in conflict just where a pair of places is told."""
+    if not all([thing in web for thing in things]) or len(set(things)) < len(things):
+        return False
+    pairs = [(low, high) for high in range(len(things)) for low in range(high)]
+    return all([web.are_tied(things[low], things[high]) == ((low, high) in places) for low, high in pairs])
+
+
 def check_web(web):
     """Refuses what is no web."""
     if not isinstance(web, Web):

@@ -1,0 +1,1 @@
+"""Orders of webs, and what they let things pay."""
