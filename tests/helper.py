@@ -110,6 +110,14 @@ def big_webs():
         yield from some_webs(many, 8, many)
 
 
+def sided_web(*many):
+    """The web of sides of so many things: two things are in conflict just if they are on unlike sides."""
+    places = [side for side, size in enumerate(many) for _ in range(size)]
+    pairs = combinations(range(len(places)), 2)
+    return web_of(LETTERS[:len(places)], [(LETTERS[one], LETTERS[other]) for one, other in pairs
+                                          if places[one] != places[other]])
+
+
 def subsets(things):
     """All tuples of some of the things, by their number."""
     for many in range(len(things) + 1):
@@ -346,3 +354,19 @@ def longest(value):
     if isinstance(value, tuple):
         return max([longest(part) for part in value] + [0])
     return 0
+
+
+def rank(rows):
+    """The rank of rows of fractions of Python's own."""
+    rows = [[Fraction(cell) for cell in row] for row in rows]
+    found = 0
+    for column in range(len(rows[0]) if rows else 0):
+        at = next((at for at in range(found, len(rows)) if rows[at][column]), None)
+        if at is None:
+            continue
+        rows[found], rows[at] = rows[at], rows[found]
+        for other in range(found + 1, len(rows)):
+            part = rows[other][column] / rows[found][column]
+            rows[other] = [one - part * two for one, two in zip(rows[other], rows[found])]
+        found += 1
+    return found

@@ -6,21 +6,30 @@ import unittest
 from huebill import errors
 from huebill.bills.charges import Charge, knot_charge
 from huebill.bills.even import (
-    equal_bill, floor_paper, greatest_floor, height_paper, is_floor_paper, least_height,
+    equal_bill, floor_paper, greatest_floor, height_paper, is_floor_paper, is_height_paper, least_height,
 )
-from huebill.bills.exists import is_kept_paper, is_scale, kept_bill, kept_paper, parts_paper, scale_total
-from huebill.bills.kept import is_kept, objections, worst
+from huebill.bills.exact import exact_paper, is_exact_paper, is_lift_paper, is_wide_paper, wide_paper
+from huebill.bills.exists import (
+    is_kept_paper, is_parts_paper, is_scale, kept_bill, kept_paper, parts_paper, scale_total,
+)
+from huebill.bills.kept import is_bill, is_kept, is_within, objections, worst
 from huebill.bills.mixtures import (
     alike_at, always_pay, bill_with, fixing_group, freedom, is_mixing, is_mixing_of, mixing, mixing_charge, never_pay,
     pay_range,
 )
 from huebill.orders.orders import (
-    count_kind, count_paying, kind_bills, kind_order, mean_bill, order_bill, order_paying, payers,
+    count_kind, count_paying, is_order, kind_bills, kind_order, mean_bill, order_bill, order_paying, payers,
 )
-from huebill.webs.colours import colouring, full_knots, full_loose, greatest_knots, groups, loose_groups
+from huebill.orders.shrinking import growing, is_shrinking_paper, shrinking_paper
+from huebill.plans.plans import (
+    is_plan, is_plan_paper, is_tree, mixed_plan, plan, plan_paper, rises, tree, tree_plan,
+)
+from huebill.webs.colours import (
+    colouring, full_knots, full_loose, greatest_knots, groups, is_colouring, is_group, is_knot, is_loose, loose_groups,
+)
 from huebill.webs.good import good_paper, is_good, is_good_paper, knot_in, spoiled_group
 from huebill.webs.webs import Web, round_web, row_web
-from tests.helper import BOND, EIGHT, FIVE, ROW, Case, big_webs
+from tests.helper import BOND, EIGHT, FIVE, OTHER_KINDS, ROW, Case, big_webs
 
 INTERFACE = {
     "huebill.errors": (
@@ -54,6 +63,17 @@ INTERFACE = {
     "huebill.orders.orders": (
         "is_order", "order_bill", "payers", "is_kind", "kind_order", "kind_orders", "count_paying", "count_kind",
         "order_paying", "mean_bill", "kind_bills",
+    ),
+    "huebill.orders.shrinking": (
+        "cost", "is_shrinking", "sides", "shrinking_paper", "is_shrinking_paper", "growing",
+    ),
+    "huebill.plans.plans": (
+        "is_tree", "tree", "tree_bill", "bills_along", "has_plan", "plan_paper", "is_plan_paper", "is_plan", "plan",
+        "tree_plan", "rises", "mixed_plan",
+    ),
+    "huebill.bills.exact": (
+        "is_exact", "exact_paper", "is_exact_paper", "paying_bill", "lift", "lift_paper", "is_lift_paper", "is_wide",
+        "wide_paper", "is_wide_paper",
     ),
 }
 WEB = (
@@ -177,6 +197,44 @@ class Apart(Case):
         self.assertEqual((str(charge), charge.things, charge.unit), ("a 1, b 1", ("a", "b"), 1))
 
 
+class Judges(Case):
+    """Functions that judge a value answer for every value [0.5]."""
+
+    def judges(self, web):
+        bill = Charge({thing: 0 for thing in web})
+        for judge in (is_group, is_loose, is_knot, is_within, is_bill, is_kept, is_scale, is_parts_paper, is_kept_paper,
+                      is_good_paper, is_mixing, is_height_paper, is_floor_paper, is_order, is_shrinking_paper, is_tree,
+                      is_plan_paper, is_plan, is_exact_paper, is_wide_paper):
+            yield lambda value, judge=judge: judge(web, value)
+        yield lambda value: is_colouring(web, (), value)
+        yield lambda value: is_mixing_of(web, bill, value)
+        yield lambda value: is_lift_paper(web, bill, value)
+
+    def test_values_of_every_kind(self):
+        words = ("good", "ring", "turned", "height", "floor", "sides", "bond", "tree", "row", "apart", "exact", "knot",
+                 "lift", "pulls", "wide", "low", "one", "free", "over", "kept", "scale", "parts")
+        short = [(word,) for word in words] + [(word, ()) for word in words] + [(word, {}) for word in words]
+        short += [(word, None, None) for word in words] + [[word, word] for word in words] + list(words)
+        short += [(word, [[]], [[]]) for word in words] + [(word, ({},), ({},)) for word in words]
+        for web in (BOND, ROW):
+            # The empty group is a group, loose and a knot, and it has a colouring without a part.
+            told = [judge(()) for judge in self.judges(web)]
+            self.assertEqual(told, [at in (0, 1, 2, 20) for at in range(23)])
+            for judge in self.judges(web):
+                for value in OTHER_KINDS + short:
+                    self.is_false(judge(value), value)
+
+    def test_papers_are_found_right(self):
+        """Each paper is judged right in its own web, but not in the same one without its conflicts, or with all."""
+        for web in [web for web in big_webs() if is_good(web)][::3]:
+            other = Web(web.things, ()) if len(web.conflicts) > 0 else ~web
+            for call, judge in ((height_paper, is_height_paper), (floor_paper, is_floor_paper),
+                                (good_paper, is_good_paper), (shrinking_paper, is_shrinking_paper),
+                                (plan_paper, is_plan_paper), (exact_paper, is_exact_paper), (wide_paper, is_wide_paper)):
+                self.is_true(judge(web, call(web)))
+                self.is_false(judge(other, call(web)))
+
+
 class Values(Case):
     def test_sequences_are_tuples(self):
         charge = knot_charge(FIVE, ("a", "c", "d"))
@@ -198,11 +256,23 @@ class Values(Case):
             self.assertEqual(colouring(web, web.things), colouring(same, same.things))
             self.assertEqual(list(parts_paper(web)[2][1]), list(parts_paper(same)[2][1]))
 
+    def test_plans_are_apart(self):
+        before = plan(BOND)
+        plan(BOND).clear()
+        told = tree_plan(BOND, tree(BOND))
+        self.assertEqual((plan(BOND), told), (before, before))
+        del told[("a",)]
+        self.assertEqual(len(mixed_plan(BOND, before, plan(BOND), 1, 2)), 7)
+        self.refuses(errors.InvalidPlan, lambda: mixed_plan(BOND, before, told, 1, 2))
+        self.refuses(errors.InvalidPlan, lambda: rises(BOND, told))
+        self.assertEqual((len(told), len(before)), (6, 7))
+
     def test_equal_calls_about_equal_webs(self):
         for web in [web for web in list(big_webs())[::2] if is_good(web)]:
             same = Web(web.things[::-1], tuple((other, one) for one, other in web.conflicts[::-1]))
             bill = kept_bill(web)
-            for call in (good_paper, height_paper, floor_paper, fixing_group, kind_order, mean_bill):
+            for call in (good_paper, height_paper, floor_paper, fixing_group, kind_order, mean_bill, shrinking_paper,
+                         growing, plan_paper, plan, exact_paper, wide_paper):
                 self.assertEqual(call(web), call(same))
             self.assertEqual(mixing(web, bill), mixing(same, bill))
             self.assertEqual(alike_at(web, ()), alike_at(same, ()))

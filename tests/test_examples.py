@@ -4,8 +4,9 @@ import unittest
 
 from huebill import errors
 from huebill.base import numbers
-from huebill.bills import charges, even, exists, kept, mixtures
-from huebill.orders import orders
+from huebill.bills import charges, even, exact, exists, kept, mixtures
+from huebill.orders import orders, shrinking
+from huebill.plans import plans
 from huebill.webs import colours, good, webs
 
 VALUES = """
@@ -97,11 +98,39 @@ STAGE_10 = """
 [4, 1, 0, 0, None, ('a', 'c', 'b'), (('a', 'b', 'c'), ('d', 'e', 'f')), True, False]
 """
 
+STAGE_11 = """
+>>> [cost(BOND, ("a",), "b"), cost(BOND, ("a", "c"), "b"), is_shrinking(BOND), sides(BOND), sides(~BOND), sides(FIVE), is_shrinking_paper(BOND, ("bond", "c", "b", "a")), is_shrinking_paper(~BOND, ("sides", (("a",), ("b", "c"))))]
+[0, 1, False, None, (('a',), ('b', 'c')), None, True, True]
+>>> [growing(~BOND), str(mean_bill(~BOND)), count_kind(~BOND), kind_bills(~BOND), shrinking_paper(~BOND)]
+[None, 'a 1, b 1/2, c 1/2', 6, (('a', 'b'), ('a', 'c')), ('sides', (('a',), ('b', 'c')))]
+"""
+
+STAGE_12 = """
+>>> bond = ("free", "a", ("over", ("one", "b"), ("one", "c")))
+>>> [is_tree(BOND, bond), tree(ROW), str(tree_bill(BOND, bond, ("a", "c"))), str(tree_bill(BOND, bond, ("a",))), [str(one) for one in bills_along(BOND, bond, ("a", "c", "b"))], has_plan(EIGHT)]
+[True, None, 'a 0, c 1', 'a 1', ['a 1', 'a 0, c 1', 'a 0, b 1, c 1'], False]
+>>> [is_plan_paper(ROW, ("row", "d", "c", "b", "a")), is_plan_paper(BRIDGE, ("apart", "a", "b", "e", "f")), is_plan_paper(BOND, ("tree", bond)), plan_paper(ROW)[0], is_plan(BOND, tree_plan(BOND, bond)), plan(FIVE)]
+[True, True, True, 'row', True, None]
+>>> bills = {**tree_plan(BOND, bond), ("a", "c"): Charge({"a": 1, "c": 0})}
+>>> [rises(BOND, bills), is_plan(BOND, bills), rises(BOND, tree_plan(BOND, bond)), len(tree_plan(BOND, bond)), is_plan(BOND, mixed_plan(BOND, tree_plan(BOND, bond), plan(BOND), 2, 5))]
+[(('c', ('a', 'c'), ('a', 'b', 'c')),), False, (), 7, True]
+"""
+
+STAGE_13 = """
+>>> [is_exact(ROW), is_exact(BRIDGE), is_exact(BOND), is_exact(FIVE), is_exact_paper(BRIDGE, ("knot", ("c", "d"))), is_exact_paper(BOND, ("knot", ("a",))), is_exact_paper(FIVE, ("ring", tuple("abcde"))), exact_paper(ROW)[0], paying_bill(BRIDGE, ("c", "d"))]
+[True, False, False, False, True, True, True, 'exact', None]
+>>> low = knot_charge(BRIDGE, ("c", "d"))
+>>> [lift(BRIDGE, low), is_lift_paper(BRIDGE, low, ("pulls", {"c": 1, "d": 1})), is_wide(BRIDGE), is_wide_paper(BRIDGE, ("low", low, {"c": 2, "d": 2})), lift(ROW, knot_charge(ROW, ("a",))) == knot_charge(ROW, ("a", "b")), is_wide(ROW), is_lift_paper(ROW, knot_charge(ROW, ("b",)), ("lift", knot_charge(ROW, ("b", "c"))))]
+[None, True, False, True, True, True, True]
+"""
+
 
 def all_names():
     """What an example can call: all that the modules have."""
     names = {}
-    for module in (errors, numbers, webs, colours, charges, kept, exists, good, mixtures, even, orders):
+    modules = (errors, numbers, webs, colours, charges, kept, exists, good, mixtures, even, orders, shrinking, plans,
+               exact)
+    for module in modules:
         names.update({name: value for name, value in vars(module).items() if not name.startswith("_")})
     return names
 
@@ -136,8 +165,9 @@ class Examples(unittest.TestCase):
     def test_as_written(self):
         names = all_names()
         self.assertEqual(self.told(VALUES, names), 0)
-        texts = (STAGE_1, STAGE_2, STAGE_3, STAGE_4, STAGE_5, STAGE_6, STAGE_7, STAGE_8, STAGE_9, STAGE_10)
-        self.assertEqual([self.told(text, names) for text in texts], [1, 3, 2, 2, 2, 2, 2, 4, 2, 2])
+        texts = (STAGE_1, STAGE_2, STAGE_3, STAGE_4, STAGE_5, STAGE_6, STAGE_7, STAGE_8, STAGE_9, STAGE_10, STAGE_11,
+                 STAGE_12, STAGE_13)
+        self.assertEqual([self.told(text, names) for text in texts], [1, 3, 2, 2, 2, 2, 2, 4, 2, 2, 2, 3, 2])
 
     def test_the_values_of_the_examples(self):
         names = all_names()

@@ -206,9 +206,9 @@ class Papers(Case):
 
     def test_values_near_papers(self):
         items = OTHER_KINDS + ["ring", "turned", "good", FIVE.things, FIVE]
-        right = ("ring", FIVE.things)
-        for near in near_tuples(right, items):
-            self.assertIs(is_good_paper(FIVE, near), near == right, near)
+        for web, right in ((FIVE, ("ring", FIVE.things)), (SEVEN, ("ring", ORDER)), (~SEVEN, ("turned", ORDER))):
+            for near in near_tuples(right, items):
+                self.assertIs(is_good_paper(web, near), near == right, near)
         right = good_paper(BOND)
         for near in near_tuples(right, items + [right[1]]):
             self.assertIs(is_good_paper(BOND, near), near == right, near)

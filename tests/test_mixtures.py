@@ -16,7 +16,7 @@ from huebill.webs.webs import Web
 from tests.helper import (
     BOND, BRIDGE, DOT, EIGHT, EMPTY_EIGHT, FIVE, LONG, LONGEST, OTHER_KINDS, RINGS, ROW, Case, bad_webs, charge_of,
     good_webs, longest, mix, mixed_shares, near_dicts, near_tuples, pair_of, plain_colours, plain_greatest, plain_kept,
-    plain_spoiled, shares_of, small_webs, some_mixings, some_webs, subsets,
+    plain_spoiled, rank, shares_of, small_webs, some_mixings, some_webs, subsets,
 )
 
 FLAT = Charge({thing: 1 for thing in ROW}, unit=2)
@@ -48,22 +48,6 @@ def near_mixings(web, told):
     many = 10 ** 80
     yield unit * many, {knot: part * many for knot, part in shares.items()}
     yield unit * many + 1, {knot: part * many for knot, part in shares.items()}
-
-
-def rank(rows):
-    """The rank of rows of fractions of Python's own."""
-    rows = [[Fraction(cell) for cell in row] for row in rows]
-    found = 0
-    for column in range(len(rows[0]) if rows else 0):
-        at = next((at for at in range(found, len(rows)) if rows[at][column]), None)
-        if at is None:
-            continue
-        rows[found], rows[at] = rows[at], rows[found]
-        for other in range(found + 1, len(rows)):
-            part = rows[other][column] / rows[found][column]
-            rows[other] = [one - part * two for one, two in zip(rows[other], rows[found])]
-        found += 1
-    return found
 
 
 def plain_fixing(web, group):

@@ -145,7 +145,7 @@ def _times_paying(web, counts, bit):
     """In how many orders the thing with this bit pays."""
     times = 0
     for mask in range(len(counts)):
-        if mask & bit == 0 and counts[mask | bit] > counts[mask]:
+        if counts[mask | bit] > counts[mask]:
             ahead = _size(mask)
             times += factorial(ahead) * factorial(len(web) - ahead - 1)
     return times

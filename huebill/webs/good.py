@@ -33,17 +33,17 @@ def is_good_paper(web, value):
     check_web(web)
     if not isinstance(value, tuple) or len(value) != 2:
         return False
-    if value[0] == "good":
-        return _are_good_knots(web, value[1])
-    return is_spoiled_paper(web, value)
+    word, shown = value
+    if word == "good":
+        return _are_good_knots(web, shown)
+    return is_spoiled_paper(web, word, shown)
 
 
-def is_spoiled_paper(web, value):
-    """Whether the value is a pair of `ring`, or `turned`, and things that show that the web is not good."""
+def is_spoiled_paper(web, word, things):
+    """Whether the word is `ring`, or `turned`, and the things stand so and show that the web is not good."""
     check_web(web)
-    if not isinstance(value, tuple) or len(value) != 2 or not isinstance(value[1], tuple):
+    if not isinstance(things, tuple):
         return False
-    word, things = value
     if word == "ring":
         return len(things) in _RINGS and has_shape(web, things, _ring_places(len(things)))
     return word == "turned" and len(things) == _TURNED and has_shape(web.turned(), things, _ring_places(_TURNED))
@@ -72,7 +72,7 @@ def _spoiled_paper(web):
     found = groups(web)
     turned = web.turned()
     for many in _RINGS:
-        for group in [group for group in found if len(group) == many]:
+        for group in [one for one in found if len(one) == many]:
             ring = _ring(web, group)
             if ring is not None:
                 return "ring", ring
