@@ -17,6 +17,8 @@ from huebill.bills.mixtures import (
     alike_at, always_pay, bill_with, fixing_group, freedom, is_mixing, is_mixing_of, mixing, mixing_charge, never_pay,
     pay_range,
 )
+from huebill.bills.shared import shares
+from huebill.bills.steady import is_proposal, is_steady_paper, steady_paper, unbeaten
 from huebill.orders.orders import (
     count_kind, count_paying, is_order, kind_bills, kind_order, mean_bill, order_bill, order_paying, payers,
 )
@@ -24,10 +26,12 @@ from huebill.orders.shrinking import growing, is_shrinking_paper, shrinking_pape
 from huebill.plans.plans import (
     is_plan, is_plan_paper, is_tree, mixed_plan, plan, plan_paper, rises, tree, tree_plan,
 )
+from huebill.small.small import alike_by, is_alike_by, properties
 from huebill.webs.colours import (
     colouring, full_knots, full_loose, greatest_knots, groups, is_colouring, is_group, is_knot, is_loose, loose_groups,
 )
 from huebill.webs.good import good_paper, is_good, is_good_paper, knot_in, spoiled_group
+from huebill.webs.joined import layers, pieces
 from huebill.webs.webs import Web, round_web, row_web
 from tests.helper import BOND, EIGHT, FIVE, OTHER_KINDS, ROW, Case, big_webs
 
@@ -74,6 +78,14 @@ INTERFACE = {
     "huebill.bills.exact": (
         "is_exact", "exact_paper", "is_exact_paper", "paying_bill", "lift", "lift_paper", "is_lift_paper", "is_wide",
         "wide_paper", "is_wide_paper",
+    ),
+    "huebill.bills.steady": (
+        "is_proposal", "does_beat", "is_beaten", "beating", "is_steady", "unbeaten", "steady_paper", "is_steady_paper",
+    ),
+    "huebill.webs.joined": ("laid_beside", "laid_over", "pieces", "layers"),
+    "huebill.bills.shared": ("shares", "piece_bills", "layer_bills", "put_together", "put_over"),
+    "huebill.small.small": (
+        "properties", "all_webs", "count_webs", "first_web", "alike_by", "is_alike_by",
     ),
 }
 WEB = (
@@ -153,14 +165,14 @@ class Apart(Case):
         self.assertEqual(mixing(ROW, bill), before)
 
     def test_shares_are_left_as_they_were(self):
-        shares = {("c", "d"): 1, ("a", "b"): 2}
-        charge = mixing_charge(ROW, (3, shares))
-        self.is_true(is_mixing(ROW, (3, shares)))
-        self.is_true(is_mixing_of(ROW, charge, (3, shares)))
-        self.is_false(is_mixing(ROW, (2, shares)))
-        self.refuses(errors.InvalidOperation, lambda: mixing_charge(ROW, (2, shares)))
-        self.assertEqual(list(shares.items()), [(("c", "d"), 1), (("a", "b"), 2)])
-        shares.clear()
+        parts = {("c", "d"): 1, ("a", "b"): 2}
+        charge = mixing_charge(ROW, (3, parts))
+        self.is_true(is_mixing(ROW, (3, parts)))
+        self.is_true(is_mixing_of(ROW, charge, (3, parts)))
+        self.is_false(is_mixing(ROW, (2, parts)))
+        self.refuses(errors.InvalidOperation, lambda: mixing_charge(ROW, (2, parts)))
+        self.assertEqual(list(parts.items()), [(("c", "d"), 1), (("a", "b"), 2)])
+        parts.clear()
         self.assertEqual(str(charge), "a 2/3, b 2/3, c 1/3, d 1/3")
         weights = {"d": 1, "a": 1}
         self.is_true(is_floor_paper(ROW, ("floor", equal_bill(ROW), (2, weights))))
@@ -204,22 +216,23 @@ class Judges(Case):
         bill = Charge({thing: 0 for thing in web})
         for judge in (is_group, is_loose, is_knot, is_within, is_bill, is_kept, is_scale, is_parts_paper, is_kept_paper,
                       is_good_paper, is_mixing, is_height_paper, is_floor_paper, is_order, is_shrinking_paper, is_tree,
-                      is_plan_paper, is_plan, is_exact_paper, is_wide_paper):
+                      is_plan_paper, is_plan, is_exact_paper, is_wide_paper, is_proposal, is_steady_paper):
             yield lambda value, judge=judge: judge(web, value)
-        yield lambda value: is_colouring(web, (), value)
         yield lambda value: is_mixing_of(web, bill, value)
         yield lambda value: is_lift_paper(web, bill, value)
+        yield lambda value: is_alike_by(web, web, value)
+        yield lambda value: is_colouring(web, (), value)
 
     def test_values_of_every_kind(self):
         words = ("good", "ring", "turned", "height", "floor", "sides", "bond", "tree", "row", "apart", "exact", "knot",
-                 "lift", "pulls", "wide", "low", "one", "free", "over", "kept", "scale", "parts")
+                 "lift", "pulls", "wide", "low", "one", "free", "over", "kept", "scale", "parts", "steady", "left")
         short = [(word,) for word in words] + [(word, ()) for word in words] + [(word, {}) for word in words]
         short += [(word, None, None) for word in words] + [[word, word] for word in words] + list(words)
         short += [(word, [[]], [[]]) for word in words] + [(word, ({},), ({},)) for word in words]
         for web in (BOND, ROW):
             # The empty group is a group, loose and a knot, and it has a colouring without a part.
             told = [judge(()) for judge in self.judges(web)]
-            self.assertEqual(told, [at in (0, 1, 2, 20) for at in range(23)])
+            self.assertEqual([at for at, right in enumerate(told) if right], [0, 1, 2, len(told) - 1])
             for judge in self.judges(web):
                 for value in OTHER_KINDS + short:
                     self.is_false(judge(value), value)
@@ -230,7 +243,8 @@ class Judges(Case):
             other = Web(web.things, ()) if len(web.conflicts) > 0 else ~web
             for call, judge in ((height_paper, is_height_paper), (floor_paper, is_floor_paper),
                                 (good_paper, is_good_paper), (shrinking_paper, is_shrinking_paper),
-                                (plan_paper, is_plan_paper), (exact_paper, is_exact_paper), (wide_paper, is_wide_paper)):
+                                (plan_paper, is_plan_paper), (exact_paper, is_exact_paper), (wide_paper, is_wide_paper),
+                                (steady_paper, is_steady_paper)):
                 self.is_true(judge(web, call(web)))
                 self.is_false(judge(other, call(web)))
 
@@ -272,10 +286,13 @@ class Values(Case):
             same = Web(web.things[::-1], tuple((other, one) for one, other in web.conflicts[::-1]))
             bill = kept_bill(web)
             for call in (good_paper, height_paper, floor_paper, fixing_group, kind_order, mean_bill, shrinking_paper,
-                         growing, plan_paper, plan, exact_paper, wide_paper):
+                         growing, plan_paper, plan, exact_paper, wide_paper, steady_paper, unbeaten, properties, pieces,
+                         layers):
                 self.assertEqual(call(web), call(same))
             self.assertEqual(mixing(web, bill), mixing(same, bill))
             self.assertEqual(alike_at(web, ()), alike_at(same, ()))
+            self.assertEqual(shares(web, bill), shares(same, bill))
+            self.assertEqual(list(alike_by(web, same).items()), list(alike_by(same, web).items()))
             self.assertEqual(bill_with(web, web.things[:1], *kept_bill(web)[web.things[0]]),
                              bill_with(same, web.things[:1], *kept_bill(web)[web.things[0]]))
 
@@ -289,9 +306,9 @@ class Values(Case):
             self.assertIs(type(found), int)
         for found in (mean_bill(ROW), equal_bill(ROW), order_bill(ROW, ROW.things), *alike_at(ROW, ())):
             self.assertIs(type(found), Charge)
-        for shares in (mixing(ROW, kept_bill(ROW)), height_paper(ROW)[2], floor_paper(ROW)[2]):
-            self.assertEqual((type(shares), type(shares[0]), type(shares[1])), (tuple, int, dict))
-            self.assertEqual(sum(shares[1].values()), shares[0])
+        for pair in (mixing(ROW, kept_bill(ROW)), height_paper(ROW)[2], floor_paper(ROW)[2]):
+            self.assertEqual((type(pair), type(pair[0]), type(pair[1])), (tuple, int, dict))
+            self.assertEqual(sum(pair[1].values()), pair[0])
 
     def test_no_other_iteration(self):
         for value in (errors.InvalidNumber((1, 2)), errors.UnknownName("ab"), errors.Spoiled(("a",)),

@@ -4,10 +4,11 @@ import unittest
 
 from huebill import errors
 from huebill.base import numbers
-from huebill.bills import charges, even, exact, exists, kept, mixtures
+from huebill.bills import charges, even, exact, exists, kept, mixtures, shared, steady
 from huebill.orders import orders, shrinking
 from huebill.plans import plans
-from huebill.webs import colours, good, webs
+from huebill.small import small
+from huebill.webs import colours, good, joined, webs
 
 VALUES = """
 >>> BOND = Web(("a", "b", "c"), (("b", "c"),))
@@ -124,12 +125,44 @@ STAGE_13 = """
 [None, True, False, True, True, True, True]
 """
 
+STAGE_14 = """
+>>> ask = knot_charge(ROW, ("a", "c"))
+>>> calm = Charge({"a": 1, "b": 2, "c": 1, "d": 0}, unit=2)
+>>> [is_proposal(ROW, ask), is_kept(ROW, calm), does_beat(ROW, calm, ask, ("a", "c")), does_beat(ROW, calm, ask, ("a",)), is_beaten(ROW, ask), is_beaten(BOND, half), is_proposal(ROW, ask.times(2))]
+[True, True, True, False, True, False, False]
+>>> bill, group = beating(ROW, ask)
+>>> [does_beat(ROW, bill, ask, group), [is_steady(web) for web in (BOND, ROW, BRIDGE)], steady_paper(BOND), unbeaten(ROW), is_steady_paper(ROW, ("steady", {"a": ("a", "b"), "b": ("a", "b"), "c": ("b", "c"), "d": ("c", "d")}))]
+[True, [False, True, True], ('left', 'a'), None, True]
+>>> is_steady(FIVE)
+raises Spoiled
+"""
+
+STAGE_15 = """
+>>> PAIRS = Web(tuple("abcd"), (("a", "b"), ("c", "d")))
+>>> both = {("a", "b"): (1, Charge({"a": 1, "b": 1})), ("c", "d"): (3, Charge({"c": 1, "d": 1}))}
+>>> [pieces(BOND), layers(BOND), layers(~PAIRS), shares(BOND, fair), str(put_together(PAIRS, both)), is_kept(PAIRS, put_together(PAIRS, both)), shares(PAIRS, put_together(PAIRS, both))]
+[(('a',), ('b', 'c')), (('a', 'b', 'c'),), (('a', 'b'), ('c', 'd')), {('a',): (0, 1), ('b', 'c'): (1, 1)}, 'a 1/4, b 1/4, c 3/4, d 3/4', True, {('a', 'b'): (1, 4), ('c', 'd'): (3, 4)}]
+>>> DOT = Web(("x",), ())
+>>> TOP = laid_over(BOND, DOT)
+>>> [TOP.beside("x"), laid_beside(DOT, BOND).conflicts, str(put_over(TOP, {("a", "b", "c"): fair, ("x",): Charge({"x": 1})})), layer_bills(~PAIRS, knot_charge(~PAIRS, ("a", "c")))[("c", "d")] == Charge({"c": 1, "d": 0}), piece_bills(BOND, fair) == {("b", "c"): fair.cut(("b", "c"))}]
+[('a', 'b', 'c'), (('b', 'c'),), 'a 0, b 1, c 1, x 1', True, True]
+>>> laid_over(BOND, ROW)
+raises InvalidOperation
+"""
+
+STAGE_16 = """
+>>> [properties(BOND), properties(ROW), properties(EIGHT), [count_webs(4, label) for label in ("exact", "good", "planned", "shrinking")], len(list(all_webs(("a", "b", "c"))))]
+[('enough', 'good', 'kept', 'planned'), ('enough', 'exact', 'good', 'kept', 'steady'), ('kept',), [30, 64, 49, 15], 8]
+>>> [first_web(tuple("abcd"), ("exact",), ("planned",)).conflicts, first_web(tuple("abc"), ("planned",), ("exact",)).conflicts, first_web(tuple("abcd"), ("steady",), ("exact",)), is_alike_by(FIVE, ~FIVE, {"a": "a", "b": "c", "c": "e", "d": "b", "e": "d"}), alike_by(BOND, BOND.without_conflict("b", "c"))]
+[(('a', 'b'), ('c', 'd')), (('a', 'b'),), None, True, None]
+"""
+
 
 def all_names():
     """What an example can call: all that the modules have."""
     names = {}
     modules = (errors, numbers, webs, colours, charges, kept, exists, good, mixtures, even, orders, shrinking, plans,
-               exact)
+               exact, steady, joined, shared, small)
     for module in modules:
         names.update({name: value for name, value in vars(module).items() if not name.startswith("_")})
     return names
@@ -166,8 +199,8 @@ class Examples(unittest.TestCase):
         names = all_names()
         self.assertEqual(self.told(VALUES, names), 0)
         texts = (STAGE_1, STAGE_2, STAGE_3, STAGE_4, STAGE_5, STAGE_6, STAGE_7, STAGE_8, STAGE_9, STAGE_10, STAGE_11,
-                 STAGE_12, STAGE_13)
-        self.assertEqual([self.told(text, names) for text in texts], [1, 3, 2, 2, 2, 2, 2, 4, 2, 2, 2, 3, 2])
+                 STAGE_12, STAGE_13, STAGE_14, STAGE_15, STAGE_16)
+        self.assertEqual([self.told(text, names) for text in texts], [1, 3, 2, 2, 2, 2, 2, 4, 2, 2, 2, 3, 2, 3, 3, 2])
 
     def test_the_values_of_the_examples(self):
         names = all_names()

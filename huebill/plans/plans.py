@@ -5,6 +5,7 @@ from huebill.bills.kept import is_kept
 from huebill.errors import InvalidOperation, InvalidPlan
 from huebill.orders.orders import check_order
 from huebill.webs.colours import groups, is_for_groups
+from huebill.webs.joined import layers
 from huebill.webs.webs import check_group, check_web, has_shape
 
 # The places, among four things, of those that are in conflict.
@@ -28,7 +29,7 @@ def tree(web):
         if web.beside(thing) == ():
             rest = tree(web.without(thing))
             return None if rest is None else ("free", thing, rest)
-    layer = _first_layer(web)
+    layer = layers(web)[0]
     if len(layer) == len(web):
         return None
     first = tree(web.part(layer))
@@ -141,14 +142,6 @@ def _things_of(web, value):
 def _check_tree(web, value):
     if not is_tree(web, value):
         raise InvalidPlan("no tree of the web")
-
-
-def _first_layer(web):
-    """The least group that has the first thing, and whose things are in conflict with all others."""
-    layer = web.things[:1]
-    for _ in web.things:
-        layer = tuple([thing for thing in web.things if not all([web.are_tied(thing, other) for other in layer])])
-    return layer
 
 
 def _bill_by(tree, group):

@@ -1,0 +1,1 @@
+"""All webs of a few things, and what they have."""
