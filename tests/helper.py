@@ -5,10 +5,11 @@ import re
 import unittest
 from fractions import Fraction
 from functools import lru_cache
-from itertools import combinations, product
+from itertools import combinations, permutations, product
 from math import lcm
 
 from huebill.bills.charges import Charge
+from huebill.bills.exists import has_kept
 from huebill.errors import InvalidNumber, UnknownName
 from huebill.webs.webs import Web, round_web, row_web
 
@@ -370,3 +371,54 @@ def rank(rows):
             rows[other] = [one - part * two for one, two in zip(rows[other], rows[found])]
         found += 1
     return found
+
+
+def plain_properties(web):
+    """The words that are true of a web: "kept" as the package says it, all others by plain looks at its groups."""
+    return _properties_of(web.things, web.conflicts)
+
+
+@lru_cache(maxsize=None)
+def _properties_of(things, conflicts):
+    web = Web(things, conflicts)
+    most = len(plain_greatest(web)[0])
+    good = plain_spoiled(web) is None
+    held = {thing for knot in plain_greatest(web) for thing in knot}
+    ties = {frozenset(pair) for pair in conflicts}
+    fours = [[frozenset(pair) in ties for pair in combinations(four, 2)] for four in permutations(things, 4)]
+    bad_fours = [[True, False, False, True, False, True], [True, False, False, False, False, True]]
+    threes = [[frozenset(pair) in ties for pair in combinations(three, 2)] for three in combinations(things, 3)]
+    found = {
+        "enough": most == plain_colours(web, things),
+        "exact": good and all(len(knot) == most for knot in plain_full_knots(web)),
+        "good": good,
+        "kept": has_kept(web),
+        "planned": not any(four in bad_fours for four in fours),
+        "shrinking": not any(three.count(True) == 1 for three in threes),
+        "steady": good and held == set(things),
+    }
+    return tuple(word for word in sorted(found) if found[word])
+
+
+def plain_hold_is_true(web, hold):
+    """Whether a hold is true of a web, by plain looks."""
+    if isinstance(hold, str):
+        return hold in plain_properties(web)
+    if hold[0] == "colours":
+        return plain_colours(web, web.things) <= hold[1]
+    return not any(one in hold[1] and other in hold[1] for one, other in web.conflicts)
+
+
+def plain_along(web, order, charges):
+    """Whether a tuple of charges is along a room of this web with this order of coming."""
+    if len(charges) != len(order):
+        return False
+    for at, charge in enumerate(charges):
+        group = tuple(sorted(order[:at + 1]))
+        if charge.things != group or not plain_kept(plain_parts_of(web, group), charge):
+            return False
+        if at > 0:
+            now, before = shares_of(charge), shares_of(charges[at - 1])
+            if any(now[thing] > before[thing] for thing in order[:at]):
+                return False
+    return True

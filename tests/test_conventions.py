@@ -4,6 +4,7 @@ import importlib
 import unittest
 
 from huebill import errors
+from huebill.base.numbers import MAX_DIGITS, MAX_NAME, MAX_THINGS
 from huebill.bills.charges import Charge, knot_charge
 from huebill.bills.even import (
     equal_bill, floor_paper, greatest_floor, height_paper, is_floor_paper, is_height_paper, least_height,
@@ -26,7 +27,9 @@ from huebill.orders.shrinking import growing, is_shrinking_paper, shrinking_pape
 from huebill.plans.plans import (
     is_plan, is_plan_paper, is_tree, mixed_plan, plan, plan_paper, rises, tree, tree_plan,
 )
-from huebill.small.small import alike_by, is_alike_by, properties
+from huebill.room.room import HOLD_WORDS, MAX_HOLDS, Room
+from huebill.small.small import MAX_SMALL, PROPERTIES, alike_by, is_alike_by, properties
+from huebill.text.shell import Shell
 from huebill.webs.colours import (
     colouring, full_knots, full_loose, greatest_knots, groups, is_colouring, is_group, is_knot, is_loose, loose_groups,
 )
@@ -87,6 +90,12 @@ INTERFACE = {
     "huebill.small.small": (
         "properties", "all_webs", "count_webs", "first_web", "alike_by", "is_alike_by",
     ),
+    "huebill.room.room": ("Room", "is_hold", "is_along"),
+    "huebill.text.formats": (
+        "write_web", "write_charge", "write_value", "read_web", "read_charge", "read_value",
+    ),
+    "huebill.text.rooms": ("write_room", "read_room"),
+    "huebill.text.shell": ("Shell",),
 }
 WEB = (
     "things", "conflicts", "beside", "are_tied", "with_conflict", "without_conflict", "with_thing", "without", "part",
@@ -96,6 +105,12 @@ CHARGE = (
     "things", "unit", "pays", "total", "of", "cut", "times", "mixed", "put_beside", "__getitem__", "__add__", "__sub__",
     "__contains__", "__len__", "__iter__", "__eq__", "__str__",
 )
+ROOM = (
+    "web", "things", "labels", "holds", "come", "go", "tie", "untie", "turn", "hold", "release", "would_break",
+    "order_bill", "along", "undo", "redo", "trial", "during", "twin", "__contains__", "__len__", "__iter__", "__eq__",
+    "__str__",
+)
+SHELL = ("room", "answer", "__call__")
 
 
 class Interface(Case):
@@ -110,10 +125,28 @@ class Interface(Case):
             self.assertIn(name, vars(Web))
         for name in CHARGE:
             self.assertIn(name, vars(Charge))
+        for name in ROOM:
+            self.assertIn(name, vars(Room))
+        for name in SHELL:
+            self.assertIn(name, vars(Shell))
+
+    def test_constants(self):
+        self.assertEqual((MAX_DIGITS, MAX_NAME, MAX_THINGS, MAX_SMALL, MAX_HOLDS), (60, 8, 8, 5, 8))
+        self.assertEqual(PROPERTIES, ("enough", "exact", "good", "kept", "planned", "shrinking", "steady"))
+        self.assertEqual(HOLD_WORDS, PROPERTIES)
+
+    def test_arguments_by_position_and_by_keyword(self):
+        room = Room(BOND)
+        for call in (lambda: room.come("d", ("a",)), lambda: room.undo(0), lambda: room.redo(0),
+                     lambda: BOND.with_thing("d", ("a",)), lambda: Charge({"a": 1}, 2)):
+            with self.assertRaises(TypeError):
+                call()
+        self.assertEqual((room.come("d", beside=("a",)), room.undo(many=1), room.redo(many=1)), (None, 0, 1))
 
     def test_properties_cannot_be_set(self):
         charge = Charge({"a": 1})
-        for thing, names in ((BOND, ("things", "conflicts")), (charge, ("things", "unit", "pays", "total"))):
+        for thing, names in ((BOND, ("things", "conflicts")), (charge, ("things", "unit", "pays", "total")),
+                             (Room(BOND), ("web", "things", "labels", "holds"))):
             for name in names:
                 with self.assertRaises(AttributeError):
                     setattr(thing, name, None)
@@ -312,7 +345,7 @@ class Values(Case):
 
     def test_no_other_iteration(self):
         for value in (errors.InvalidNumber((1, 2)), errors.UnknownName("ab"), errors.Spoiled(("a",)),
-                      errors.ParseError(1), errors.BillError("x")):
+                      errors.ParseError(1), errors.BillError("x"), Shell(BOND), Room(BOND).trial()):
             with self.assertRaises(TypeError):
                 iter(value)
 

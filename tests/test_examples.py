@@ -7,7 +7,9 @@ from huebill.base import numbers
 from huebill.bills import charges, even, exact, exists, kept, mixtures, shared, steady
 from huebill.orders import orders, shrinking
 from huebill.plans import plans
+from huebill.room import room
 from huebill.small import small
+from huebill.text import formats, rooms, shell
 from huebill.webs import colours, good, joined, webs
 
 VALUES = """
@@ -157,12 +159,51 @@ STAGE_16 = """
 [(('a', 'b'), ('c', 'd')), (('a', 'b'),), None, True, None]
 """
 
+STAGE_17 = """
+>>> room = Room(BOND)
+>>> [room.hold("plan", "planned"), room.hold("two", ("colours", 2)), room.would_break(BOND.with_thing("d", beside=("b", "c"))), room.would_break(~ROW), room.tie("b", "a"), str(room)]
+[None, None, ('two',), ('plan',), None, 'room of a b c: 2 holds']
+>>> [room.go("a"), room.come("a", beside=("c",)), room.things, str(room.web), room.undo(many=2), room.redo(), room.things, room.labels]
+[None, None, ('b', 'c', 'a'), 'web of a b c: a-c b-c', 3, 4, ('b', 'c'), ('plan', 'two')]
+>>> [str(Room(ROW).order_bill()), is_along(Room(BOND), (Charge({"a": 1}), Charge({"a": 0, "b": 1}), fair)), is_along(Room(BOND), (Charge({"a": 1}), Charge({"a": 1, "b": 0}), fair)), is_hold("round"), is_hold(("loose", ("x", "y")))]
+['a 1, b 1, c 0, d 0', True, False, False, True]
+>>> room.come("d", beside=("b", "c"))
+raises Broken
+"""
+
+STAGE_18 = r"""
+>>> [write_web(BOND).split("\n"), write_charge(half).split("\n"), write_web(Web(("x",), ())), read_web(write_web(EIGHT)) == EIGHT]
+[['things a b c', 'conflict b c'], ['unit 2', 'pay a 1', 'pay b 1', 'pay c 2'], 'things x', True]
+>>> [write_value(("kept", fair)), write_value({("a", "c"): -2, ("a",): None, "a": ("b", {})}), read_value("[ 1 =a 0 =b 1 =c 1 ]") == fair, read_value("{ =low ( ) }")]
+['( =kept [ 1 =a 0 =b 1 =c 1 ] )', '{ ( =a ) none ( =a =c ) -2 =a ( =b { } ) }', True, {'low': ()}]
+>>> small = Room(BOND)
+>>> [small.hold("two", ("colours", 2)), small.hold("plan", "planned"), small.go("b"), small.come("b"), write_room(small).split("\n"), read_room(write_room(small)) == small]
+[None, None, None, None, ['things a c b', 'hold plan planned', 'hold two colours 2'], True]
+>>> read_web("things a b\nconflict b")
+raises ParseError(1)
+>>> read_charge("unit 2\npay a 2\npay b 4")
+raises ParseError(3)
+"""
+
+STAGE_19 = r"""
+>>> shell = Shell(BOND)
+>>> [shell("hold two colours 2"), shell("come d a"), shell("properties"), shell("come e b c"), shell("labels"), shell("pieces"), shell("colours a b"), shell("things")]
+['done', 'done', 'enough exact good kept steady', 'broken two', 'two', 'a d, b c', '1', 'a b c d']
+>>> [shell("worst unit 2; pay a 1; pay b 1; pay c 2; pay d 0"), shell("is unit 2; pay a 1; pay b 1; pay c 1; pay d 1"), shell("mean"), shell("range a b"), shell("undo"), shell("sides"), shell("turn"), shell("sides"), shell("paper shrinking")]
+['1/2 a c', 'within bill kept', 'a 1/2, b 1/2, c 1/2, d 1/2', '1 1', 'done', 'none', 'done', 'a, b c', '( =sides ( ( =a ) ( =b =c ) ) )']
+>>> [shell("kind a b c"), shell("payers c a b"), shell("paying a b"), shell("tie a d"), shell("colours b a"), shell("hold Two good"), shell("hold three round"), shell("hold three loose"), shell("undo 9"), shell("go"), shell("order"), shell("show").split("\n")]
+['yes', 'a c', '3', 'unknown d', 'group', 'name', 'operation', 'done', 'undo 9', 'what', 'a 1, b 1, c 0', ['things a b c', 'conflict a b', 'conflict a c', 'hold three loose', 'hold two colours 2']]
+>>> five = Shell(FIVE)
+>>> [five("height"), five("parts"), five("bill"), five("is unit 2; pay a 1; pay b 1; pay c 1; pay d 1; pay e 1"), five("worst unit 1; pay a 0; pay b 0; pay c 0; pay d 0; pay e 0"), five("beaten unit 1; pay a 3"), five("layers")]
+['spoiled a b c d e', '5/2', 'none', 'within', '0 none', 'charge', 'a b c d e']
+"""
+
 
 def all_names():
     """What an example can call: all that the modules have."""
     names = {}
     modules = (errors, numbers, webs, colours, charges, kept, exists, good, mixtures, even, orders, shrinking, plans,
-               exact, steady, joined, shared, small)
+               exact, steady, joined, shared, small, room, formats, rooms, shell)
     for module in modules:
         names.update({name: value for name, value in vars(module).items() if not name.startswith("_")})
     return names
@@ -199,8 +240,8 @@ class Examples(unittest.TestCase):
         names = all_names()
         self.assertEqual(self.told(VALUES, names), 0)
         texts = (STAGE_1, STAGE_2, STAGE_3, STAGE_4, STAGE_5, STAGE_6, STAGE_7, STAGE_8, STAGE_9, STAGE_10, STAGE_11,
-                 STAGE_12, STAGE_13, STAGE_14, STAGE_15, STAGE_16)
-        self.assertEqual([self.told(text, names) for text in texts], [1, 3, 2, 2, 2, 2, 2, 4, 2, 2, 2, 3, 2, 3, 3, 2])
+                 STAGE_12, STAGE_13, STAGE_14, STAGE_15, STAGE_16, STAGE_17, STAGE_18, STAGE_19)
+        self.assertEqual([self.told(text, names) for text in texts], [1, 3, 2, 2, 2, 2, 2, 4, 2, 2, 2, 3, 2, 3, 3, 2, 4, 5, 4])
 
     def test_the_values_of_the_examples(self):
         names = all_names()

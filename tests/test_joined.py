@@ -318,8 +318,9 @@ class PutTogether(Case):
 
     def test_no_web(self):
         for value in [value for value in OTHER_KINDS if not isinstance(value, Web)] + [BOND.things]:
-            self.refuses(InvalidWeb, lambda: put_together(value, BOTH))
-            self.refuses(InvalidWeb, lambda: put_over(value, {}))
+            for bills in (BOTH, {}, None, BOND):
+                self.refuses(InvalidWeb, lambda: put_together(value, bills))
+                self.refuses(InvalidWeb, lambda: put_over(value, bills))
 
     def test_dicts_are_left_as_they_were(self):
         told = dict(list(BOTH.items())[::-1])

@@ -3,7 +3,6 @@
 import random
 import time
 import unittest
-from functools import lru_cache
 from itertools import combinations, permutations, product
 
 from huebill.bills.exact import is_exact, is_wide
@@ -22,8 +21,7 @@ from huebill.webs.good import is_good
 from huebill.webs.webs import Web, round_web, row_web
 from tests.helper import (
     BOND, BRIDGE, DOT, EIGHT, EMPTY_EIGHT, FIVE, LETTERS, LONG, NOT_THINGS, OTHER_KINDS, RINGS, ROW, Case, big_webs,
-    near_dicts, plain_colours, plain_full_knots, plain_greatest, plain_kept, plain_parts_of, plain_spoiled,
-    small_webs, some_webs, subsets,
+    near_dicts, plain_greatest, plain_kept, plain_parts_of, plain_properties, small_webs, some_webs, subsets,
 )
 from tests.helper import all_webs as every_web
 
@@ -43,34 +41,6 @@ def elder_properties(web):
         "planned": has_plan(web), "shrinking": is_shrinking(web), "steady": is_good(web) and is_steady(web),
     }
     return tuple(word for word in WORDS if found[word])
-
-
-@lru_cache(maxsize=None)
-def plain_properties(web_text):
-    """The properties but "kept", by plain looks at groups and at four things."""
-    web = web_from(web_text)
-    most = len(plain_greatest(web)[0])
-    good = plain_spoiled(web) is None
-    held = {thing for knot in plain_greatest(web) for thing in knot}
-    ties = {frozenset(pair) for pair in web.conflicts}
-    fours = [[frozenset(pair) in ties for pair in combinations(four, 2)] for four in permutations(web.things, 4)]
-    bad_four = [[True, False, False, True, False, True], [True, False, False, False, False, True]]
-    threes = [[frozenset(pair) in ties for pair in combinations(three, 2)] for three in combinations(web.things, 3)]
-    found = {
-        "enough": most == plain_colours(web, web.things),
-        "exact": good and all(len(knot) == most for knot in plain_full_knots(web)),
-        "good": good,
-        "planned": not any(four in bad_four for four in fours),
-        "shrinking": not any(three.count(True) == 1 for three in threes),
-        "steady": good and held == set(web.things),
-    }
-    return tuple(word for word in WORDS if found.get(word))
-
-
-def web_from(text):
-    """The web of its text."""
-    things, pairs = text[len("web of "):].split(": ")
-    return Web(tuple(things.split(" ")), tuple(tuple(pair.split("-")) for pair in pairs.split(" ") if pair != "-"))
 
 
 def plain_all(names):
@@ -112,8 +82,7 @@ class Properties(Case):
             found = properties(web)
             self.assertIs(type(found), tuple)
             self.assertEqual(found, elder_properties(web))
-            plain = plain_properties(str(web))
-            self.assertEqual(tuple(word for word in found if word != "kept"), plain)
+            self.assertEqual(found, plain_properties(web))
             bill = kept_bill(web)
             self.assertEqual("kept" in found, bill is not None)
             self.assertTrue(bill is None or plain_kept(web, bill))
@@ -208,10 +177,9 @@ class Counts(Case):
 
     def test_against_plain_looks(self):
         for many in range(1, 6):
-            told = [plain_properties(str(web)) for web in every_web(many)]
+            told = [plain_properties(web) for web in every_web(many)]
             for word in WORDS:
-                if word != "kept":
-                    self.assertEqual(COUNTS[word][many - 1], sum(word in found for found in told))
+                self.assertEqual(COUNTS[word][many - 1], sum(word in found for found in told))
 
     def test_what_the_document_tells(self):
         self.assertEqual([count_webs(many, "shrinking") for many in range(1, 6)], [1, 2, 5, 15, 52])
@@ -262,6 +230,7 @@ class First(Case):
         for value in wrong:
             for names in (("a", "b"), LETTERS):
                 self.refuses(InvalidOperation, lambda: first_web(names, value, None))
+                self.refuses(InvalidOperation, lambda: first_web(names, value, ("good",)))
                 self.refuses(InvalidOperation, lambda: first_web(names, ("good",), value))
         for names in (LETTERS, tuple("fedcba")):
             self.refuses(TooMany, lambda: first_web(names, (), ()), 5)
@@ -347,6 +316,8 @@ class Alike(Case):
     def test_no_web(self):
         for value in [value for value in OTHER_KINDS if not isinstance(value, Web)] + [BOND.things]:
             self.refuses(InvalidWeb, lambda: alike_by(value, None))
+            self.refuses(InvalidWeb, lambda: alike_by(value, BOND))
+            self.refuses(InvalidWeb, lambda: is_alike_by(value, BOND, None))
             self.refuses(InvalidWeb, lambda: alike_by(BOND, value))
             self.refuses(InvalidWeb, lambda: is_alike_by(value, None, None))
             self.refuses(InvalidWeb, lambda: is_alike_by(BOND, value, None))

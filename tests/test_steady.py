@@ -173,6 +173,7 @@ class Beats(Case):
     def test_refusals_in_their_order(self):
         for value in OTHER_KINDS + [ASK.pays, ASK.cut(("a",)), str(ASK)]:
             self.refuses(InvalidCharge, lambda: does_beat(ROW, value, None, None))
+            self.refuses(InvalidCharge, lambda: does_beat(ROW, value, ASK, ("a", "c")))
             self.refuses(InvalidCharge, lambda: does_beat(ROW, ASK, value, None))
             self.refuses(InvalidCharge, lambda: does_beat(FIVE, value, None, None))
         for value in OTHER_KINDS + [("b", "a"), ("z",), "a", ["a"], ("a", "a")]:

@@ -101,7 +101,7 @@ def _holding_knots(web):
 
 def _are_holding_knots(web, value):
     """Whether the value is a dict from all things to greatest knots that hold them."""
-    if not isinstance(value, dict) or len(value) != len(web) or not all([thing in web for thing in value]):
+    if not isinstance(value, dict) or len(value) != len(web):
         return False
     knots = greatest_knots(web)
     return all([value[thing] in knots and thing in value[thing] for thing in value])

@@ -26,7 +26,8 @@ def properties(web):
 def all_webs(names):
     """Yields all webs of these things, by the number of their conflicts and then by these, ascending."""
     check_names(names)
-    _check_small(names)
+    if len(names) > MAX_SMALL:
+        raise TooMany(MAX_SMALL)
     for _, conflicts in _all_conflicts(names):
         yield Web(names, conflicts)
 
@@ -46,7 +47,6 @@ def first_web(names, wanted, lacking):
     check_names(names)
     if not _are_properties(wanted) or not _are_properties(lacking):
         raise InvalidOperation("no tuple of properties")
-    _check_small(names)
     for web in all_webs(names):
         if _has_all(web, wanted) and not any([has_property(web, label) for label in lacking]):
             return web
@@ -89,12 +89,6 @@ def has_property(web, label):
     if label == "shrinking":
         return is_shrinking(web)
     return is_good(web) and is_steady(web)
-
-
-def _check_small(names):
-    """Refuses too many names."""
-    if len(names) > MAX_SMALL:
-        raise TooMany(MAX_SMALL)
 
 
 def _has_all(web, labels):

@@ -1,0 +1,1 @@
+"""Rooms: webs that change, under holds."""

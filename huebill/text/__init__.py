@@ -1,0 +1,1 @@
+"""Texts of webs, charges, values and rooms, and a shell."""
